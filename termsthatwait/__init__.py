@@ -1,0 +1,1 @@
+"""Terms that wait and terms that differ: the store beneath a logic language."""
