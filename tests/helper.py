@@ -55,6 +55,30 @@ def value(t):
     return call(6, [], [t])
 
 
+def relation(t, u):
+    return call(7, [], [t, u])
+
+
+def told(*variables):
+    return call(8, [], [list(variables)])
+
+
+def waiting():
+    return call(9, [], [])
+
+
+def mark():
+    return call(10, [], [])
+
+
+def back(number):
+    return call(11, [number], [])
+
+
+def cut(number):
+    return call(12, [number], [])
+
+
 def taken_apart(given):
     """The answers, each a list of its own."""
     apart = []

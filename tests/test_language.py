@@ -78,6 +78,8 @@ class Language(unittest.TestCase):
         methods = {node.name for path, node in nodes(ast.FunctionDef)}
         stored = {node.attr for path, node in nodes(ast.Attribute) if isinstance(node.ctx, ast.Store)}
         self.assertEqual(methods & stored, set())
+        taken = {name for kind in (str, int, list, dict, set, bytes, tuple) for name in dir(kind)}
+        self.assertEqual((methods | stored) & taken - {"__init__"}, set())
         called = {node.func.attr for path, node in nodes(ast.Call) if isinstance(node.func, ast.Attribute)}
         self.assertLessEqual(called, methods | set(METHODS))
         self.assertEqual([keyword for path, node in nodes(ast.Call) for keyword in node.keywords], [])

@@ -2,8 +2,8 @@
 
 import unittest
 
-from tests.helper import (A, B, X, ask, chain, differ, last, new, same, sym, value, var,
-                          when_bound, when_sure, when_whole)
+from tests.helper import (A, B, X, ask, back, chain, cut, differ, last, mark, new, relation, same, sym, told, value, var,
+                          waiting, when_bound, when_sure, when_whole)
 
 VARIABLES = [new(20), new(20), new(20)]
 
@@ -38,6 +38,26 @@ class Deep(unittest.TestCase):
                    when_sure(7, var(54), A), same(var(54), A), same(var(54), B), differ(X, var(30)))
         self.assertEqual(told[-6:], [[1], [1], [1], [0], [1], [1]])
 
+    def test_how_two_deep_values_stand_to_each_other(self):
+        given = ask(*VARIABLES, *deep(0, 24), *deep(30, 24), relation(X, var(30)), relation(X, var(29)),
+                    relation(X, var(24)), relation(X, var(54)), same(var(24), var(54)), relation(X, var(30)))
+        self.assertEqual(given[-6:], [[0], [0], [2], [0], [1], [1]])
+
+    def test_what_is_left_of_a_deep_difference(self):
+        given = ask(*VARIABLES, *deep(0, 24), *deep(30, 24), differ(X, var(30)), told(54, 24), told(0, 24, 54), told(24),
+                    differ(var(54), var(24)), told(24, 54))
+        self.assertEqual(given[-5:], [[0, 0, 0, 0, 1, 1, 1, 0, 0, 1], [-5], [0, 0, 0, 0], [1],
+                                      [0, 0, 0, 0, 1, 1, 1, 1, 0, 0]])
+
+    def test_a_deep_value_in_a_condition(self):
+        self.assertEqual(last(*VARIABLES, *deep(0, 52), differ(X, var(59)), told()), [-5])
+        self.assertEqual(last(*VARIABLES, *deep(0, 52), differ(X, var(59)), same(var(59), A), told(52)), [0, 0, 0, 0])
+
+    def test_back_from_a_deep_value(self):
+        given = ask(*VARIABLES, when_whole(7, X), mark(), *deep(0, 50), value(X), same(var(50), A), waiting(), back(1),
+                    waiting(), value(sym(3, X, var(50))))
+        self.assertEqual(given[-6:], [[-5], [1, 7], [0], [60], [1, 7, 1], [0] + sym(3, X, var(50))])
+
 
 class Wide(unittest.TestCase):
 
@@ -59,6 +79,37 @@ class Wide(unittest.TestCase):
     def test_no_part_of_itself_however_wide(self):
         told = ask(*VARIABLES, *wide(0, 50), same(var(50), sym(5, X)), value(var(50)))
         self.assertEqual(told[-2:], [[0], [0, 0, 50]])
+
+    def test_what_is_left_of_a_wide_difference(self):
+        given = ask(*VARIABLES, *wide(0, 24), *wide(30, 24), differ(X, var(30)), relation(var(24), var(54)),
+                    told(54, 24), told(54, 0), same(var(54), A), told(24))
+        self.assertEqual(given[-6:], [[1], [2], [0, 0, 0, 0, 1, 1, 1, 0, 0, 1], [-5], [1],
+                                      [0, 0, 0, 1, 1, 0] + A])
+
+    def test_wide_differences_that_follow_from_each_other(self):
+        pairs = [differ(var(n), var(30 + n)) for n in range(9)]
+        given = ask(*VARIABLES, *wide(0, 20), *wide(30, 20), *pairs[:5], *pairs[7:], told(20, 50))
+        self.assertEqual(given[-1], [0, 0, 0, 0, 1, 1, 1, 1, 0, 0])
+
+    def test_many_differences_and_goals_as_deep_values_grow(self):
+        pairs = [differ(sym(9, X, var(n + 10)), sym(9, chain(1, 20, var(n)), A)) for n in range(20, 30)]
+        more = [differ(sym(9, X, var(20)), sym(9, var(n), sym(n))) for n in range(40, 50)]
+        goals = [when_sure(n, sym(9, X, var(19)), sym(9, var(n), sym(n))) for n in range(30, 38)]
+        grown = []
+        for written in reversed(deep(0, 12)):
+            grown.extend([written, told(*range(20, 30))])
+        given = ask(*VARIABLES, *pairs, *more, *goals, *grown, waiting(), told(12, 20, 30))
+        self.assertEqual([answer[0] for answer in given[3:-2]], [1] * 20 + [0] * 8 + [1, 0] * 12)
+        self.assertEqual(given[-2][:5], [8, 30, 2, 31, 2])
+        self.assertEqual(given[-1], [0, 0, 0, 0, 1, 0, 2, 1, 2, 1] + chain(1, 12 * 39 - 20, X) + [2] + A)
+
+    def test_many_marks_of_deep_values(self):
+        grown = []
+        for written in deep(0, 25):
+            grown.extend([mark(), written])
+        given = ask(*VARIABLES, *grown, value(var(13)), back(14), value(X), value(var(12)), value(var(13)), cut(2))
+        self.assertEqual(given[-6:], [[0] + chain(1, 12 * 39, var(25)), [60], [-5], [0] + chain(1, 39, var(13)),
+                                      [0, 0, 13], [1]])
 
     def test_many_goals_on_deep_values(self):
         goals = [when_sure(goal, sym(4, X, sym(4, X)), sym(4, var(30), sym(4, var(30)))) for goal in range(20)]
